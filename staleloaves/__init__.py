@@ -1,0 +1,1 @@
+"""Staleloaves: a bakery with a shelf life."""
