@@ -28,3 +28,11 @@ class InvalidDays(LoafError):
 
 class Contradiction(LoafError):
     """An observation fits none of the lives that were possible before."""
+
+
+class InvalidRule(LoafError):
+    """A number of a baker's rule, the part, is out of its range."""
+
+    def __init__(self, part):
+        super().__init__(f"wrong {part}")
+        self.part = part

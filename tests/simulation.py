@@ -98,6 +98,39 @@ def play_shelf(shelf, day, baked, demand, life):
     return sold, demand - sold, thrown, [row for row in rest if row[0] + life - 1 > day]
 
 
+def play_days(choose, demands, life, days, newest=False):
+    """Plays every loaf of the first so many days; returns a tuple (baked, sold, missed, thrown) for each.
+
+    `choose` tells how many loaves are baked by the day, the stock at its beginning and what the day before sold.
+    """
+    loaves = deque()
+    rows = []
+    sold = 0
+    for day in range(days):
+        baked = choose(day, len(loaves), sold)
+        loaves.extend([day] * baked)
+        sold = missed = thrown = 0
+        for _ in range(demands[day % len(demands)]):
+            if not loaves:
+                missed += 1
+                continue
+            sold += 1
+            if newest:
+                loaves.pop()
+            else:
+                loaves.popleft()
+        while loaves and loaves[0] + life - 1 <= day:
+            loaves.popleft()
+            thrown += 1
+        rows.append((baked, sold, missed, thrown))
+    return rows
+
+
+def sum_rows(rows, width):
+    """Returns the tuple of the sums of so many numbers in each row."""
+    return tuple(sum(row[at] for row in rows) for at in range(width))
+
+
 def random_parts(seed, count, most_days, most_loaves, most_life):
     """Returns the bakes, demands and life of so many bakeries; many of them have nearly balanced rounds."""
     source = random.Random(seed)
