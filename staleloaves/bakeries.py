@@ -12,6 +12,12 @@ def check_amounts(part, amounts):
             raise InvalidBakery(part, at)
 
 
+def check_life(life):
+    """Raises InvalidBakery if a life is out of range."""
+    if life < 1 or life > Bakery.MAX_LIFE:
+        raise InvalidBakery("life", -1)
+
+
 def check_bakery(bakes, demands, life):
     """Raises InvalidBakery for the first fault of what a bakery is to be made of."""
     check_amounts("bakes", bakes)
@@ -20,8 +26,7 @@ def check_bakery(bakes, demands, life):
     check_amounts("demands", demands)
     if len(demands) != len(bakes):
         raise InvalidBakery("demands", -1)
-    if life < 1 or life > Bakery.MAX_LIFE:
-        raise InvalidBakery("life", -1)
+    check_life(life)
 
 
 class Bakery:

@@ -36,3 +36,27 @@ class InvalidRule(LoafError):
     def __init__(self, part):
         super().__init__(f"wrong {part}")
         self.part = part
+
+
+class InvalidPrices(LoafError):
+    """One of the prices, the part, is out of its range."""
+
+    def __init__(self, part):
+        super().__init__(f"wrong {part}")
+        self.part = part
+
+
+class InvalidOperation(LoafError):
+    """A tuple at an index is no operation of a live bakery."""
+
+    def __init__(self, index):
+        super().__init__(f"no operation (index {index})")
+        self.index = index
+
+
+class InvalidReport(LoafError):
+    """A line of a text, the row, is not formed like that line of a report."""
+
+    def __init__(self, row):
+        super().__init__(f"wrong line (row {row})")
+        self.row = row

@@ -1,8 +1,10 @@
 import unittest
 
-from staleloaves.errors import Contradiction, InvalidBakery, InvalidDays, InvalidNumber, InvalidRule, LoafError
+from staleloaves.errors import (Contradiction, InvalidBakery, InvalidDays, InvalidNumber, InvalidOperation,
+                                InvalidPrices, InvalidReport, InvalidRule, LoafError)
 
-ALL = (InvalidBakery, InvalidNumber, InvalidDays, Contradiction, InvalidRule)
+ALL = (InvalidBakery, InvalidNumber, InvalidDays, Contradiction, InvalidRule, InvalidPrices, InvalidOperation,
+       InvalidReport)
 
 
 class ErrorsTest(unittest.TestCase):
@@ -20,10 +22,13 @@ class ErrorsTest(unittest.TestCase):
         self.assertEqual((error.part, error.index), ("demands", 3))
         self.assertEqual(InvalidDays(7).index, 7)
         self.assertEqual(InvalidRule("goal").part, "goal")
+        self.assertEqual(InvalidPrices("waste").part, "waste")
+        self.assertEqual(InvalidOperation(4).index, 4)
+        self.assertEqual(InvalidReport(5).row, 5)
 
     def test_errors_have_messages(self):
         for error in (InvalidBakery("life", -1), InvalidDays(2), InvalidNumber("n"), Contradiction("c"),
-                      InvalidRule("more")):
+                      InvalidRule("more"), InvalidPrices("sale"), InvalidOperation(0), InvalidReport(1)):
             self.assertTrue(str(error))
 
 
