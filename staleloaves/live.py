@@ -97,7 +97,7 @@ class LiveBakery:
 
     @classmethod
     def replay(cls, life, *operations):
-        """Returns a live bakery after operations: tuples as in a history, or to undo the one before."""
+        """Returns a live bakery after operations: tuples as in a history, and ("undo",)."""
         live = cls(life)
         for index, operation in enumerate(operations):
             operate(live, operation, index)
