@@ -26,28 +26,30 @@ class LiveBakery:
 
     def __init__(self, life):
         check_life(life)
-        self.moment = Moment(0, (0,) * life, (0, 0, 0), None, None)
+        # A list of the present moment alone, which attempts share: the rows of __exit__ may fill a list, and may
+        # name only one object besides their own, which is the block there.
+        self.present = [Moment(0, (0,) * life, (0, 0, 0), None, None)]
 
     @property
     def today(self):
         """The present day."""
-        return self.moment.day
+        return self.present[0].day
 
     @property
     def loaves(self):
         """How many loaves there are."""
-        return sum(self.moment.counts)
+        return sum(self.present[0].counts)
 
     @property
     def balance(self):
         """A tuple of how many loaves were sold, customers missed and loaves thrown away."""
-        return self.moment.sums
+        return self.present[0].sums
 
     @property
     def history(self):
         """The list of the operations in effect, in order, as tuples."""
         operations = []
-        moment = self.moment
+        moment = self.present[0]
         while moment.before is not None:
             operations.append(moment.operation)
             moment = moment.before
@@ -56,40 +58,41 @@ class LiveBakery:
     def bake(self, loaves):
         """Bakes so many loaves; returns how many there are then."""
         check_number(loaves, 0, MOST_LOAVES)
-        now = self.moment
+        now = self.present[0]
         counts = now.counts[:-1] + (now.counts[-1] + loaves,)
-        self.moment = Moment(now.day, counts, now.sums, ("bake", loaves), now)
+        self.present[0] = Moment(now.day, counts, now.sums, ("bake", loaves), now)
         return self.loaves
 
     def serve(self, customers):
         """Sells a loaf to each of so many customers while there are any; returns how many are sold."""
         check_number(customers, 0, MOST_LOAVES)
-        now = self.moment
+        now = self.present[0]
         left = tuple(sell_in_order(now.counts, customers))
         served = sum(now.counts) - sum(left)
         sold, missed, thrown = now.sums
         sums = (sold + served, missed + customers - served, thrown)
-        self.moment = Moment(now.day, left, sums, ("serve", customers), now)
+        self.present[0] = Moment(now.day, left, sums, ("serve", customers), now)
         return served
 
     def close(self):
         """Ends the day; returns how many loaves are thrown away."""
-        now = self.moment
+        now = self.present[0]
         sold, missed, thrown = now.sums
         sums = (sold, missed, thrown + now.counts[0])
-        self.moment = Moment(now.day + 1, now.counts[1:] + (0,), sums, ("close",), now)
+        self.present[0] = Moment(now.day + 1, now.counts[1:] + (0,), sums, ("close",), now)
         return now.counts[0]
 
     def undo(self):
         """Reverts the last operation in effect; returns False if there is none, else True."""
-        if self.moment.before is None:
+        before = self.present[0].before
+        if before is None:
             return False
-        self.moment = self.moment.before
+        self.present[0] = before
         return True
 
     def by_age(self):
         """Yields tuples (day of baking, number) of the loaves that are there, the oldest ones first."""
-        now = self.moment
+        now = self.present[0]
         first = now.day - len(now.counts) + 1
         for day, count in enumerate(now.counts, start=first):
             if count > 0:
@@ -132,20 +135,15 @@ class Attempt:
     """Leaves a live bakery, at the end of a block, as it was at its beginning."""
 
     def __init__(self, live):
-        self._live = live
+        self._present = live.present
         # An attempt can serve several blocks, one after the other or one within the other.
         self._block = None
-        self._begun = None
 
     def __enter__(self):
-        self._block = Block(self._live.moment, self._block)
+        self._block = Block(self._present[0], self._block)
 
     def __exit__(self, kind, value, trace):
         block = self._block
-        self._begun = block.begun
+        self._present.clear()
+        self._present.append(block.begun)
         self._block = block.around
-        self._go_back()
-
-    def _go_back(self):
-        live = self._live
-        live.moment = self._begun

@@ -224,16 +224,91 @@ class NestedTest(unittest.TestCase):
             self.assertEqual(state(live), before)
         self.assertEqual(undo_all(live), undo_all(make_live()))
 
+    def test_errors_leave_nested_blocks_of_one_attempt(self):
+        live = make_live()
+        attempt = Attempt(live)
+        for _ in range(2):
+            with self.assertRaises(Burnt) as caught:
+                with attempt:
+                    live.undo()
+                    before = state(live)
+                    with self.assertRaises(InvalidNumber):
+                        with attempt:
+                            live.undo()
+                            live.bake(-1)
+                    self.assertEqual(state(live), before)
+                    with attempt:
+                        live.close()
+                        raise Burnt
+            self.assertEqual(type(caught.exception), Burnt)
+            self.assertEqual(state(live), state(make_live()))
+        self.assertEqual(undo_all(live), undo_all(make_live()))
+
+    def test_one_attempt_around_and_within_another(self):
+        live = make_live()
+        one, other = Attempt(live), Attempt(live)
+        states = []
+        with one:
+            live.serve(1)
+            states.append(state(live))
+            with other:
+                live.undo()
+                live.undo()
+                states.append(state(live))
+                with one:
+                    live.bake(9)
+                    live.close()
+                    states.append(state(live))
+                    with other:
+                        while live.undo():
+                            pass
+                    self.assertEqual(state(live), states[2])
+                self.assertEqual(state(live), states[1])
+            self.assertEqual(state(live), states[0])
+        self.assertEqual(undo_all(live), undo_all(make_live()))
+
+    def test_blocks_that_end_in_the_order_of_their_beginning(self):
+        def steps(live, customers):
+            with Attempt(live):
+                live.serve(customers)
+                yield
+
+        live = make_live()
+        first, second = steps(live, 1), steps(live, 2)
+        next(first)
+        between = state(live)
+        next(second)
+        self.assertEqual(live.history[-2:], [("serve", 1), ("serve", 2)])
+        self.assertEqual(list(first), [])
+        self.assertEqual(state(live), state(make_live()))
+        self.assertEqual(list(second), [])
+        self.assertEqual(state(live), between)
+        live.undo()
+        self.assertEqual(undo_all(live), undo_all(make_live()))
+
+    def test_one_live_bakery_is_not_another_one(self):
+        live, other = make_live(), make_live()
+        attempt, different = Attempt(live), Attempt(other)
+        with attempt:
+            live.serve(1)
+            with different:
+                other.close()
+                live.serve(1)
+            self.assertEqual(live.history[-2:], [("serve", 1), ("serve", 1)])
+            self.assertEqual(undo_all(other), undo_all(make_live()))
+        self.assertEqual(other.history, [])
+        self.assertEqual(undo_all(live), undo_all(make_live()))
+
 
 class ModelTest(unittest.TestCase):
-    def play(self, source, live, model, depth):
+    def play(self, source, live, model, depth, attempts=()):
         """Does random operations, in nested attempts, too, some of which end by an error."""
         for _ in range(source.randint(0, 8)):
             if depth < 4 and source.random() < 0.25:
                 kept = list(model.operations)
                 try:
-                    with Attempt(live):
-                        self.play(source, live, model, depth + 1)
+                    with source.choice(attempts) if attempts else Attempt(live):
+                        self.play(source, live, model, depth + 1, attempts)
                         if source.random() < 0.4:
                             live.bake(-1)
                 except LoafError:
@@ -244,17 +319,26 @@ class ModelTest(unittest.TestCase):
                 self.assertEqual(operate(live, operation), model.operate(operation))
             self.assertEqual(state(live), model_state(model))
 
-    def test_random_attempts(self):
-        source = random.Random(155)
+    def assert_random_attempts(self, source, count):
+        """Plays with so many attempts, each for several blocks, or with a new one for each block."""
         for _ in range(200):
             life = source.choice((1, 2, 3, 30))
             live, model = LiveBakery(life), LiveModel(life)
-            self.play(source, live, model, 0)
+            attempts = [Attempt(live) for _ in range(count)]
+            for _ in range(2):
+                self.play(source, live, model, 0, attempts)
             while model.operations:
                 model.operations.pop()
                 self.assertIs(live.undo(), True)
                 self.assertEqual(state(live), model_state(model))
             self.assertIs(live.undo(), False)
+
+    def test_random_attempts(self):
+        self.assert_random_attempts(random.Random(155), 0)
+
+    def test_random_blocks_of_shared_attempts(self):
+        for count in (1, 2, 3):
+            self.assert_random_attempts(random.Random(count), count)
 
 
 if __name__ == "__main__":
